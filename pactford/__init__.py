@@ -1,0 +1,1 @@
+"""Helpers of two sides that lend and give things by handles."""

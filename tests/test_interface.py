@@ -1,0 +1,54 @@
+"""The interface: names, arguments and places of definition, as far as it has landed."""
+
+import importlib
+import inspect
+import unittest
+
+ERRORS = {
+    "NoWord": "(word)", "NoPact": "(at)", "NoText": "(at)", "NoHelper": "(name)", "NoHandle": "(handle)",
+    "Ended": "(handle)", "NoBody": "(name, at)", "NoRow": "(at)", "NoSide": "(at)", "NoThing": "(at)",
+    "NoLetter": "(letter)", "Unlet": "(side, lines)",
+}
+CLASSES = {
+    "pactford.pacts.Pacts": ("(pairs, helpers)", {
+        "pairs": "(self)", "names": "(self, side)", "pact": "(self, name)", "laden": "(self, word, *, side)",
+        "over": "(self, word, *, side)", "errors": "(self, name, *, side)",
+        "__len__": "(self)", "__eq__": "(self, other)", "__str__": "(self)",
+    }),
+    "pactford.table.Table": ("()", {
+        "begin": "(self, number)", "look": "(self, handle)", "end": "(self, handle)", "alive": "(self)",
+        "most": "(self)", "twin": "(self)", "__len__": "(self)",
+    }),
+    **{"pactford.errors." + name: (form, {"__init__": "(self, " + form[1:]}) for name, form in ERRORS.items()},
+}
+FUNCTIONS = {"pactford.pacts.read_pacts": "(text)"}
+
+
+def found(path):
+    module, name = path.rsplit(".", 1)
+    return getattr(importlib.import_module(module), name)
+
+
+class Interface(unittest.TestCase):
+    def test_each_stands_in_its_file(self):
+        for path in [*CLASSES, *FUNCTIONS]:
+            with self.subTest(path):
+                self.assertEqual(found(path).__module__, path.rsplit(".", 1)[0])
+
+    def test_classes_and_their_own_methods(self):
+        for path, (form, methods) in CLASSES.items():
+            with self.subTest(path):
+                self.assertEqual(str(inspect.signature(found(path))), form)
+            for name, told in methods.items():
+                with self.subTest(path, name=name):
+                    self.assertIn(name, vars(found(path)))
+                    self.assertEqual(str(inspect.signature(vars(found(path))[name])), told)
+
+    def test_functions(self):
+        for path, form in FUNCTIONS.items():
+            with self.subTest(path):
+                self.assertEqual(str(inspect.signature(found(path))), form)
+
+
+if __name__ == "__main__":
+    unittest.main()
