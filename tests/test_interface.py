@@ -19,9 +19,23 @@ CLASSES = {
         "begin": "(self, number)", "look": "(self, handle)", "end": "(self, handle)", "alive": "(self)",
         "most": "(self)", "twin": "(self)", "__len__": "(self)",
     }),
+    "pactford.side.Side": ("(pacts, number, bodies)", {
+        "pacts": "(self)", "number": "(self)", "body": "(self, name)", "rows": "(self, name)",
+        "place": "(self, name, row)", "changed": "(self, bodies)", "__eq__": "(self, other)",
+    }),
+    "pactford.world.World": ("(near, far)", {
+        "call": "(self, name, things=(), *, picks=(), most=200)", "let_go": "(self, thing)", "swap": "(self, side)",
+        "close": "(self)", "back": "(self)", "held": "(self)", "shelf": "(self, number)", "closed": "(self)",
+        "broken": "(self)", "log": "(self)", "story": "(self)", "double": "(self)", "__len__": "(self)",
+        "__eq__": "(self, other)",
+    }),
     **{"pactford.errors." + name: (form, {"__init__": "(self, " + form[1:]}) for name, form in ERRORS.items()},
 }
-FUNCTIONS = {"pactford.pacts.read_pacts": "(text)"}
+FUNCTIONS = {
+    "pactford.pacts.read_pacts": "(text)", "pactford.plain.plain_run": "(near, far, deeds)",
+    "pactford.papers.paper": "(side, *, begin='E')", "pactford.papers.is_paper": "(side, facts, *, begin='E')",
+}
+VALUES = {"pactford.world.CALLS": 200, "pactford.papers.EMPTY": "E"}
 
 
 def found(path):
@@ -48,6 +62,11 @@ class Interface(unittest.TestCase):
         for path, form in FUNCTIONS.items():
             with self.subTest(path):
                 self.assertEqual(str(inspect.signature(found(path))), form)
+
+    def test_values(self):
+        for path, value in VALUES.items():
+            with self.subTest(path):
+                self.assertEqual(found(path), value)
 
 
 if __name__ == "__main__":
