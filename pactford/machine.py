@@ -258,7 +258,8 @@ class Machine:
 
     def _caught(self, call, word, thing):
         """Let a call that waits catch an error, and tell whether it does."""
-        for caught, pocket, row in call.steps[call.row][4]:
+        catches = call.steps[call.row][4]
+        for caught, pocket, row in catches:
             if caught == word:
                 new = None if thing is None else self._own(call, pocket, thing)
                 self._write(("caught", call.serial, word, new, thing))

@@ -78,10 +78,9 @@ class Runner:
 
     def close(self):
         """Let go of all that shelves own and that the outside holds."""
-        for side, held in enumerate(list(self._shelves)):
+        for held in self._shelves:
             if _owned(held):
                 self.told.append(("freed", 0, held[0]))
-                self._shelves[side] = None
         for thing in sorted(self._outside):
             self._free_outside(thing)
         self.shut = True

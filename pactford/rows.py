@@ -131,7 +131,7 @@ class RowReader:
         name, _, takes, gives, _ = called
         behind = 2 + 2 * len(takes)
         handed = self._handed(words[2:behind], takes)
-        to = self._to(words[behind:behind + 2]) if gives else None
+        to = self._to(words[behind:behind + 2])
         if handed is None or gives != (to is not None):
             return None
         catches = self._catches(name, words[behind + 2:] if gives else words[behind:])
@@ -170,7 +170,7 @@ class RowReader:
                 return None
             errors.remove(words[1])
             laden = self._laden(words[1])
-            pocket = pocket_of(words[2]) if laden else None
+            pocket = pocket_of(words[2])
             behind = 4 if laden else 3
             row = self._row_number(words[behind - 1]) if len(words) >= behind else None
             if row is None or laden != (pocket is not None):

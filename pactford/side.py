@@ -51,9 +51,6 @@ class Side:
 
     def changed(self, bodies):
         """Tell a side with other bodies for some helpers."""
-        for name in sorted(bodies):
-            if name not in self._parsed:
-                raise NoHelper(name)
         return Side(self._pacts, self._number, {**self._bodies, **bodies})
 
     def __eq__(self, other):

@@ -230,6 +230,14 @@ class Out(unittest.TestCase):
         world.call("keep")
         self.assertEqual(world.broken(), ("out", 3, "grab", 1, (1, 2)))
 
+    def test_given_on_while_it_is_lent_out(self):
+        helpers = [*self.HELPERS, ("eat", 1, ("given",), False, ())]
+        for mid in ("make b\nuse b\ncall eat give a\ndone", "(x) (make y) (use y) (call eat (x)) (done)"):
+            world = world_of(helpers, {"keep": "make a\nput a\ncall mid lend shelf\ndone", "mid": mid, "grab": "done",
+                                       "via": "done", "over": "done", "eat": "free a\ndone"})
+            self.assertEqual(world.call("keep"), ("broke", "lent", None))
+            self.assertEqual(world.broken(), ("lent", 2, "mid", 2, (1, 2)))
+
     def test_the_last_row_that_lent_it_is_told(self):
         world = self.world(keep="make a\nput a\ncall mid lend shelf\ndone",
                            mid="clear a\ncall via lend shelf\ndone", grab="call over\ntake a\nfree a\ndone")

@@ -4,9 +4,11 @@ import random
 import unittest
 
 from making import harmless, pacts_of, refusal, side_of
-from pactford.errors import NoLetter, TooLong
+from pactford.errors import NoHelper, NoLetter, TooLong
 from pactford.pacts import Pacts
-from pactford.papers import EMPTY, is_paper, paper
+from pactford import papers
+from pactford.papers import EMPTY, paper
+from pactford.rules import Rules as PackageRules
 from pactford.side import Side
 from pactford.world import World
 from plain_rules import PlainRules
@@ -19,6 +21,26 @@ HELPERS = [
     ("calm", 1, (), False, ()),
 ]
 PACTS = pacts_of(HELPERS)
+
+
+def is_paper(*things, **named):
+    told = papers.is_paper(*things, **named)
+    assert isinstance(told, bool)
+    return told
+
+
+def closed(rules, facts):
+    """The facts and all to which the rules lead from them."""
+    facts = set(facts)
+    fresh = facts
+    while fresh:
+        fresh = rules.led(fresh, facts) - facts
+        facts = facts | fresh
+    return facts
+
+
+def breaks(facts):
+    return [fact for fact in facts if fact[0] == "break"]
 
 
 def side(run, peer="done"):
@@ -110,15 +132,9 @@ class Rows(unittest.TestCase):
 
     def check(self, told, fact, found):
         """A list of all that follows from some facts is a paper where no break is among them, and only then."""
-        rules = PlainRules(told)
-        facts = {("top", "E"), fact}
-        fresh = facts
-        while fresh:
-            fresh = rules.led(fresh, facts) - facts
-            facts = facts | fresh
-        facts = sorted(facts)
-        breaks = [one for one in facts if one[0] == "break"]
-        self.assertEqual(is_paper(told, facts), not breaks)
+        facts = sorted(closed(PlainRules(told), {("top", "E"), fact}))
+        self.assertEqual(is_paper(told, facts), not breaks(facts))
+        self.assertEqual(PackageRules(told).from_one(fact), found)
         for led in found:
             less = [one for one in facts if one != led and one[0] != "break"]
             if len(less) < len(facts):
@@ -261,6 +277,24 @@ class Rules(unittest.TestCase):
                          [("end", "only", start, "", letter) for start in "EUX"
                           for letter in sorted({start} | set("HX"))])
 
+    def test_looks_at_a_handle_that_is_lent_to_another_call(self):
+        pacts = pacts_of([("outer", 0, ("lent",), False, ()), ("inner", 0, (), True, ("spilt",)),
+                          ("eats", 0, ("given",), False, ()), ("uses", 0, ("lent",), False, ())])
+        # At the top the shelf owns; where outer calls inner it holds what was lent to outer.
+        outer = "take b\nput a\ncall inner to d on spilt d 3\ntake c\nclear c\nput b\nclear d\ndone"
+        for row, right in (("use a", True), ("use shelf", True), ("clear a", True), ("forget e", True), ("move a b", True),
+                           ("call uses lend a", True), ("free a", False), ("call eats give a", False),
+                           ("done a", False), ("throw spilt a", False)):
+            inner = ["take a", row, "clear a", "clear b", "make c", "put c", "make d", "done d"]
+            if row == "use shelf":
+                inner = ["use shelf", "make d", "done d"]
+            if row in ("done a", "throw spilt a"):
+                inner = ["take a", "make b", "put b", row]
+            told = Side(pacts, 0, {"outer": outer, "inner": "\n".join(inner),
+                                   "eats": "free a\ndone", "uses": "use a\ndone"})
+            with self.subTest(row):
+                self.assertEqual(paper(told, begin="O") is not None, right)
+
     def test_views_and_backs_of_each_letter(self):
         # far lets only be entered, which leaves the shelf or makes of it what it may.
         pacts = pacts_of([("only", 0, ("lent",), False, ()), ("far", 1, ("lent",), False, ())])
@@ -358,13 +392,9 @@ class IsPaper(unittest.TestCase):
                      ("stand", "run", "B", 6, "UXHOE", "B"), ("stand", "peer", "O", 1, "UUUUU", "X"),
                      ("wait", "run", "O", 3, "EXHEU", "B", "E"), ("wait", "run", "U", 3, "UUUEE", "O", "B"),
                      ("wait", "run", "O", 3, "EEEEE", "E", "H")):
-            facts = set(self.facts) | {more}
-            fresh = facts
-            while fresh:
-                fresh = rules.led(fresh, facts) - facts
-                facts = facts | fresh
+            facts = closed(rules, {*self.facts, more})
             with self.subTest(more):
-                right = not [fact for fact in facts if fact[0] == "break"]
+                right = not breaks(facts)
                 self.assertEqual(is_paper(self.side, sorted(facts)), right)
                 self.assertEqual(is_paper(self.side, [*self.facts, more]), right and len(facts) == len(self.facts) + 1)
                 if right:
@@ -383,7 +413,8 @@ class IsPaper(unittest.TestCase):
             self.assertTrue(is_paper(self.side, [*self.facts, fact]), fact)
         for fact in (
                 (), ("top",), ("top", "H"), ("top", "U"), ("top", "B"), ("top", ""), ("top", "EO"), ("top", None), ("top", "E", "E"),
-                ("Top", "E"), ("stop", "E"), (None,), (0, "E"), (True, "E"), ("enter", "peer"), ("enter", "far", "E"),
+                ("Top", "E"), ("stop", "E"), ("enters", "peer", "E"), ("ends", "peer", "B", "shut", "U"),
+                ("stands", "run", "E", 6, "EEEOE", "E"), ("waits", "run", "E", 3, "EEEEE", "E", "E"), (None,), (0, "E"), (True, "E"), ("enter", "peer"), ("enter", "far", "E"),
                 ("enter", "nobody", "E"), ("enter", "peer", "H"), ("enter", "peer", "Z"), ("enter", "peer", ""),
                 ("enter", "peer", "E", "E"), ("enter", "", "E"), ("enter", None, "E"), ("enter", 0, "E"),
                 ("end", "peer", "B", "shut"), ("end", "peer", "B", "barred", "U"), ("end", "peer", "B", "other", "U"),
@@ -410,6 +441,11 @@ class IsPaper(unittest.TestCase):
             with self.subTest(fact):
                 self.assertFalse(is_paper(self.side, [*self.facts, fact]))
                 self.assertFalse(is_paper(self.side, [fact, *self.facts]))
+                try:
+                    facts = closed(PlainRules(self.side), {*self.facts, fact})
+                except (KeyError, ValueError, TypeError, IndexError, AttributeError, NoHelper):
+                    continue
+                self.assertFalse(is_paper(self.side, sorted(facts, key=repr)))
 
     def test_truths_for_numbers(self):
         told = one("clear a", "done")
@@ -432,6 +468,88 @@ class IsPaper(unittest.TestCase):
         self.assertEqual(facts, self.facts)
 
 
+class AllLetters(unittest.TestCase):
+    """Facts of a side that breaks nowhere, with all letters that there are."""
+
+    SHELVES = "EOHUXB"
+    STARTS = "EOUXB"
+
+    def check(self, told, begin, *more):
+        rules = PlainRules(told)
+        facts = closed(rules, {("top", begin), *more})
+        self.assertEqual(breaks(facts), [])
+        self.assertTrue(is_paper(told, sorted(facts), begin=begin))
+        for fact in sorted(facts):
+            less = facts - {fact}
+            needed = fact in rules.led(less, less) or fact == ("top", begin)
+            self.assertEqual(is_paper(told, sorted(less), begin=begin), not needed)
+
+    def test_waits_on_the_other_side(self):
+        told = one("call calm", "done")
+        for start in self.STARTS:
+            for held in self.SHELVES:
+                for shelf in self.SHELVES:
+                    self.check(told, "E", ("wait", "only", start, 0, "HXEUE", held, shelf))
+
+    def test_waits_on_the_own_side(self):
+        pacts = pacts_of([("only", 0, (), False, ()), ("peer", 0, (), False, ())])
+        told = Side(pacts, 0, {"only": "call peer\ndone", "peer": "done"})
+        for held in self.SHELVES:
+            for shelf in self.SHELVES:
+                self.check(told, "X", ("wait", "only", "O", 0, "HXEUE", held, shelf))
+                for end in self.SHELVES:
+                    self.check(told, "X", ("wait", "only", "O", 0, "EEEEE", held, shelf),
+                               ("end", "peer", {"H": "U"}.get(shelf, shelf), "", end))
+
+    def test_ends(self):
+        told = one("call calm", "done")
+        for start in self.STARTS:
+            for shelf in self.SHELVES:
+                for begin in "EOX":
+                    self.check(told, begin, ("end", "only", start, "spilt", shelf))
+                    self.check(told, begin, ("end", "only", start, "", shelf), ("wait", "only", "U", 0, "EEEEE", "O", start))
+
+    def test_an_error_that_is_none_of_the_called_helpers(self):
+        pacts = pacts_of([("only", 0, (), False, ("shut",)), ("peer", 0, (), False, ())])
+        told = Side(pacts, 0, {"only": "call peer\ndone", "peer": "done"})
+        self.check(told, "E", ("end", "peer", "E", "shut", "E"))
+        facts = closed(PlainRules(told), {("top", "E"), ("end", "peer", "E", "spilt", "E")})
+        self.assertEqual(breaks(facts), [("break", "only", "E", 0, "unnamed")])
+        self.assertFalse(is_paper(told, sorted(set(facts) - set(breaks(facts)))))
+        told = told.changed({"only": "make a\ncall peer\nclear a\ndone"})
+        facts = closed(PlainRules(told), {("top", "E"), ("end", "peer", "E", "shut", "E")})
+        self.assertEqual(breaks(facts), [("break", "only", "E", 1, "kept")])
+        self.assertFalse(is_paper(told, sorted(set(facts) - set(breaks(facts)))))
+
+    def test_tops(self):
+        pacts = pacts_of([("fill", 0, (), False, ()), ("lend", 0, ("lent",), False, ())])
+        told = Side(pacts, 0, {"fill": "take a\nclear a\nmake a\nput a\ndone", "lend": "take b\nclear b\nput a\ndone"})
+        for begin in "OX":
+            self.assertEqual([fact for fact in paper(told, begin=begin) if fact[0] == "top"], [("top", "O"), ("top", "X")])
+        self.assertIsNone(paper(told))
+
+
+class AllRules(unittest.TestCase):
+    """What the package's own rules lead to, breaks and their reasons too."""
+
+    def test_the_same_as_the_plain_ones(self):
+        reasons = set()
+        for seed in range(4000, 4060):
+            rng = random.Random(seed)
+            pacts = random_pacts(rng)
+            told = random_side(rng, pacts, rng.randrange(2), mended=0)
+            plain, rules = PlainRules(told), PackageRules(told)
+            facts = sorted(set().union(*[plain.all_facts(begin) for begin in "EOX"]))
+            for fact in facts:
+                self.assertEqual(sorted(rules.from_one(fact)), sorted(plain.alone(fact)))
+                reasons |= {fact[4]} if fact[0] == "break" else set()
+            ends = [fact for fact in facts if fact[0] == "end"]
+            for fact in facts:
+                for end in ends if fact[0] in ("top", "wait") else []:
+                    self.assertEqual(rules.from_two(fact, end), plain.both(fact, end))
+        self.assertLessEqual({"empty", "full", "lent", "kept", "unnamed"}, reasons)
+
+
 class Many(unittest.TestCase):
     def test_the_least_paper(self):
         counts = {True: 0, False: 0}
@@ -441,12 +559,12 @@ class Many(unittest.TestCase):
             told = random_side(rng, pacts, rng.randrange(2))
             for begin in "EOX":
                 facts = PlainRules(told).all_facts(begin)
-                breaks = [fact for fact in facts if fact[0] == "break"]
+                right = not breaks(facts)
                 with self.subTest(seed, begin=begin):
-                    self.assertEqual(paper(told, begin=begin), None if breaks else sorted(facts))
-                    self.assertEqual(is_paper(told, list(facts), begin=begin), not breaks)
-                counts[not breaks] += 1
-                if not breaks:
+                    self.assertEqual(paper(told, begin=begin), sorted(facts) if right else None)
+                    self.assertEqual(is_paper(told, list(facts), begin=begin), right)
+                counts[right] += 1
+                if right:
                     facts = sorted(facts)
                     facts.pop(rng.randrange(len(facts)))
                     self.assertFalse(is_paper(told, facts, begin=begin))

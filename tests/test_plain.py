@@ -2,11 +2,13 @@
 
 import random
 import unittest
+from unittest import mock
 
 from making import harmless, pacts_of, refusal, side_of, world_of
 from pactford.errors import Closed, NoHelper, NoSide, NoThing, TooDeep, TooLong
 from pactford.plain import plain_run
 from pactford.side import Side
+from pactford.table import Table
 from pactford.world import World
 from random_sides import do_deed, random_deed, random_pacts, random_side
 
@@ -182,6 +184,18 @@ class TheSameAsAWorld(unittest.TestCase):
         self.assertGreater(counts["same"], 200)
         self.assertGreater(counts["broke"], 50)
         self.assertGreater(counts["refused"], 50)
+
+    def test_without_tables_and_without_turned_rows(self):
+        near, far = sides({"deep": "() (pick ((call deeper ()) (make x) (call hold (x) to x)) ()) (done)",
+                           "hold": "(x) (use x) (put x) (make x) (done x)"})
+        deeds = [("call", "deep", [], [1, 1, 1]), ("call", "keep", [], []), ("close",)]
+        right = plain_run(near, far, deeds)
+        self.assertGreater(len(right[0]), 10)
+        for side, names in ((near, ("deep",)), (far, ("deeper", "hold"))):
+            for name in names:
+                side.parsed(name).steps = None
+        with mock.patch.object(Table, "begin", side_effect=AssertionError):
+            self.assertEqual(plain_run(near, far, deeds), right)
 
     def test_one_side_in_rows_and_one_said(self):
         pacts = pacts_of(HELPERS)

@@ -30,7 +30,7 @@ WRONG = [
     "pick " + DEEP, "pick 1 ", "pick 0x1", "pick 1_0", "go 0", "go 2", "go", "go 01", "go a", "go 1 1",
     "throw", "throw spilt", "throw shut a", "throw full a", "throw barred", "throw spilt shelf", "throw spilt a b",
     "throw spilt  a", "throw Spilt a", "throw other", "done", "done shelf", "done a b", "done f", "Done a", "stop",
-    "call", "call other", "call plain on", "call plain on shut", "call plain on shut 2", "call plain on shut 00",
+    "call", "call other", "shout plain", "Call plain", "calls plain", "call plain on", "call plain on shut", "call plain on shut 2", "call plain on shut 00",
     "call plain on shut a 0", "call plain on spilt a 0", "call plain on barred 0", "call plain on shut 0 on shut 1",
     "call plain to a", "call plain lend a", "call plain on shut 0 0", "call plain on shut 0 on", "call plain  on shut 0",
     "call plain at shut 0", "call none on full b 0", "call none on spilt 0", "call none on spilt shelf 0",
@@ -75,7 +75,7 @@ class OneRow(unittest.TestCase):
 
     def test_figures(self):
         rows = ["use a"] * 20 + ["done a"]
-        for number, right in (("20", True), ("10", True), ("0", True), ("21", False), ("020", False), ("2", True)):
+        for number, right in (("20", True), ("10", True), ("0", True), ("21", False), ("020", False), ("2", True), ("02", False), ("00", False)):
             with self.subTest(number):
                 text = "\n".join([f"pick {number}", *rows[1:]])
                 self.assertEqual(wrong_at(PACTS, "giver", text), None if right else 0)

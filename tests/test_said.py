@@ -41,7 +41,7 @@ WRONG = [
     "(call none () (on full x ()))", "(call none () (on spilt x ()) (on spilt y ()))", "(call none () (on spilt x () ()))",
     "(call giver (x y))", "(call giver (x y) to)", "(call giver (x y) to shelf)", "(call giver (x y) to (x))",
     "(call giver (x y) at x)", "(call giver (x y) x)", "(call giver (x y) (to x))", "(call giver () to x)",
-    "(call giver (x) to x)", "(call giver (x y z) to x)", "(call giver x y to x)", "(call giver (x shelf) to x)",
+    "(call giver (x) to x)", "(call giver (x y z) to x)", "(call giver x y to x)", "(call giver xy to x)", "(call giver (x shelf) to x)",
     "(call giver (x (y)) to x)", "(call giver (X y) to x)", "(call taker (shelf x) to x)",
     "(call giver (x y) (on spilt x ()) to x)", "(call giver (x y) to x (on spilt x ()) to y)",
 ]
@@ -69,7 +69,7 @@ class Forms(unittest.TestCase):
                      "(x y) (done x) ", "(x y) (done x))", "(x y) (done x", "(x y) done", "(x y)\n(done x)", "(x y) (done\nx)",
                      "(x y) (done x)\n", "(x y) (done x) x", "(x y) x (done x)", "(x y) (make x)x (done x)", "((x) y) (done x)",
                      "(x y) (pick ()()) (done x)", "(x y) (pick() ()) (done x)", "(x y) (pick () ()) (done x", "(x y)) (done x",
-                     "(x\ny) (done x)", "(x y) (done x) )", "(x y) (done  x)", "(x y) (done x) (", "(" * 20000,
+                     "(x\ny) (done x)", "(x y) (done x) )", "(x y) (done x) (again ()", "(x y) (again ((done x))", "(x y) (pick ()x ()) (done x)", "(x y) (done  x)", "(x y) (done x) (", "(" * 20000,
                      "(" * 9000 + ")" * 9000 + "x"):
             self.check(text, -1, "", "")
 

@@ -60,6 +60,7 @@ class Made(unittest.TestCase):
     def test_bodies_changed_behind_it(self):
         bodies = dict(BODIES)
         side = Side(PACTS, 0, bodies)
+        self.assertEqual(bodies, BODIES)
         bodies["fill"] = "done"
         del bodies["pour"]
         self.assertEqual(side, near())
@@ -85,7 +86,7 @@ class Told(unittest.TestCase):
         self.assertEqual([near().place("pour", row) for row in range(3)], [0, 1, 2])
 
     def test_no_row(self):
-        for row in (3, -1, 10 ** 39, -10 ** 39):
+        for row in (3, -1, 10 ** 39, -10 ** 39, True, False):
             self.assertEqual(refusal(near().place, "pour", row), (NoRow, row))
         count = len(near().rows("fill"))
         self.assertEqual(refusal(near().place, "fill", count), (NoRow, count))
@@ -165,6 +166,23 @@ class SaidRows(unittest.TestCase):
             if word == "pick":
                 self.assertIn(places[at], (3, 4))
         self.assertEqual([places[at] for at, row in enumerate(rows) if row.startswith("throw")], [1, 7])
+
+    def test_places_of_clearings_and_of_what_comes_back(self):
+        side = self.side("() (make x) (call tap () to y (on shut ())) (take x) (done)", ((), False, ("spilt", "shut")))
+        rows = side.rows("fill")
+        places = [side.place("fill", at) for at in range(len(rows))]
+        self.assertEqual(places, sorted(places))
+        self.assertEqual(rows[:2], ["clear a", "make a"])
+        self.assertEqual(places[:3], [0, 0, 1])
+        self.assertEqual(rows[-5:], ["clear a", "take a", "clear a", "clear b", "done"])
+        self.assertEqual(places[-6:], [1, 2, 2, 3, 3, 3])
+        self.assertIn("throw spilt e", rows)
+        self.assertIn("move e b", rows)
+
+    def test_places_of_gos(self):
+        side = self.side("() (pick () ((again ()))) (done)")
+        told = [(row.split(" ")[0], side.place("fill", at)) for at, row in enumerate(side.rows("fill"))]
+        self.assertEqual(sorted(told), [("done", 2), ("go", 0), ("go", 1), ("pick", 0), ("pick", 1)])
 
     def test_equal_sides_tell_the_same(self):
         self.assertEqual(near().rows("fill"), near().rows("fill"))

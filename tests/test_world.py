@@ -143,6 +143,15 @@ class Things(unittest.TestCase):
         self.assertIsNone(refusal(one.call, "lend", [0, None, 0]))
         self.assertEqual(one.call("give", [2, 0]), ("done", "", 0))
 
+    def test_a_truth_is_no_thing(self):
+        one = world()
+        one.call("make")
+        one.call("make")
+        self.assertEqual(refusal(one.call, "lend", [True, None, None]), (NoThing, 0))
+        self.assertEqual(refusal(one.call, "lend", [0, False, None]), (NoThing, 1))
+        self.assertEqual(refusal(one.let_go, True), (NoThing, True))
+        self.assertEqual(one.held(), [0, 1])
+
     def test_a_thing_that_is_freed_or_given_is_held_no_more(self):
         one = world()
         one.call("lend")
