@@ -88,9 +88,9 @@ class Machine:
         if self._left == 0:
             raise TooLong("more calls would be entered than may be")
         self._left -= 1
-        self._stock.entered += 1
         pact = self._pacts.pact(name)
-        call = RowCall(self._stock.entered, pact, (by, place), self._sides[pact[1]].parsed(name).steps)
+        steps = self._sides[pact[1]].parsed(name).steps
+        call = RowCall(self._stock.new_call(), pact, (by, place), steps)
         self._calls.append(call)
         self._write(("entered", call.serial, name, by))
         return call

@@ -15,7 +15,8 @@ def paper(side, *, begin=EMPTY):
     known = {first: True}
     queue = [first]
     while queue:
-        for fact in web.spun(queue.pop()):
+        led = web.spun(queue.pop())
+        for fact in led:
             if fact[0] == "break":
                 return None
             if fact not in known:

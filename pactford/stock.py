@@ -26,6 +26,11 @@ class Stock:
         self.things += 1
         return self.things - 1
 
+    def new_call(self):
+        """Enter a call, and tell its number."""
+        self.entered += 1
+        return self.entered
+
     def gain(self, thing):
         """Let the outside hold a thing."""
         self.outside[thing] = True
