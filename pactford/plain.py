@@ -49,7 +49,7 @@ class Runner:
         self._sides = (near, far)
         self._pacts = near.pacts()
         self._shelves = [None, None]
-        self._outside = {}
+        self._of_outside = {}
         self._things = 0
         self._entered = 0
         # The open calls, the last entered one last.
@@ -63,7 +63,7 @@ class Runner:
     def call(self, name, things, picks):
         """Call a helper from the outside."""
         pact = self._pacts.pact(name)
-        check_things(pact[2], things, self._outside)
+        check_things(pact[2], things, self._of_outside)
         self._picks = Picks(picks)
         self._left = CALLS
         try:
@@ -73,7 +73,7 @@ class Runner:
 
     def free(self, thing):
         """Let go of a thing that the outside holds."""
-        check_held(thing, self._outside, thing)
+        check_held(thing, self._of_outside, thing)
         self._free_outside(thing)
 
     def close(self):
@@ -81,13 +81,13 @@ class Runner:
         for held in self._shelves:
             if _owned(held):
                 self.told.append(("freed", 0, held[0]))
-        for thing in sorted(self._outside):
+        for thing in sorted(self._of_outside):
             self._free_outside(thing)
         self.shut = True
 
     def _free_outside(self, thing):
         """Let go of a thing of the outside."""
-        del self._outside[thing]
+        del self._of_outside[thing]
         self.told.append(("freed", 0, thing))
 
     def _call_from_outside(self, pact, things):
@@ -95,11 +95,11 @@ class Runner:
         handed = []
         for thing in list(things) if things else [None] * len(pact[2]):
             handed.append(self._make(0) if thing is None else thing)
-            self._outside[handed[-1]] = True
+            self._of_outside[handed[-1]] = True
         call = self._new_call(pact, (0, 0))
         for at, take in enumerate(pact[2]):
             if take == "given":
-                del self._outside[handed[at]]
+                del self._of_outside[handed[at]]
             self._hand_over(call, at, handed[at], take == "given")
         return self._run(call)
 
@@ -107,7 +107,7 @@ class Runner:
         """Let the outside have what a call brought."""
         word, thing = ended
         if thing is not None:
-            self._outside[thing] = True
+            self._of_outside[thing] = True
         if word:
             self.told.append(("caught", 0, word, thing))
         elif pact[3]:

@@ -38,6 +38,12 @@ DUNDERS = set("""__init__ __eq__ __repr__ __str__ __len__ __enter__ __exit__ __c
     __ge__ __ne__ __add__ __sub__ __mul__ __floordiv__ __mod__ __and__ __or__ __xor__ __neg__ __bool__ __contains__
     __getitem__ __setitem__ __slots__ __class__ __name__""".split())
 WHOLE_AT_ONCE = ("any", "all", "min", "max", "sum", "sorted")
+# L12: how no name begins, and what none is, also not with digits or underscores behind it.
+BARRED_BEGINS = ("_wall", "_WallAttr", "_pe_", "_dcw_", "_enum_", "_cm_", "_twin_re_", "_lay_", "_law_", "_stub_", "_sre")
+BARRED_PLAIN = r"(_cold|_tuplegetter|_outside|_record|_written_out|_member_names)[0-9_]*"
+# L26: what strings, lists, dicts and the like have, and an attribute is not called either.
+BARRED_ATTRIBUTES = set("""items keys values pop update append clear extend insert remove reverse setdefault sort args
+    encode decode hex fromhex format format_map mro register elements open input law""".split())
 
 
 def trees():
@@ -46,6 +52,10 @@ def trees():
 
 def nodes(*kinds):
     return [(path, node) for path, tree in trees() for node in ast.walk(tree) if isinstance(node, kinds)]
+
+
+def is_barred(name):
+    return name.startswith(BARRED_BEGINS) or re.fullmatch(BARRED_PLAIN, name) is not None
 
 
 def own_names():
@@ -100,6 +110,17 @@ class Language(unittest.TestCase):
                     if not token.string.startswith('"""') and set(re.findall(r"\w+", token.string)) & BARRED:
                         wrong.append((path, at, token.string))
         self.none(wrong)
+
+    def test_barred_names(self):
+        for name in ("_outside", "_outside_", "_outside_2", "_cold7", "_walls", "_sre", "_srep", "_law_x"):
+            self.assertTrue(is_barred(name), name)
+        for name in ("outside", "_of_outside", "_outsides", "_outside_call", "_laws", "_scold", "_recorder"):
+            self.assertFalse(is_barred(name), name)
+        self.none([(path, token.start[0], token.string) for path in FILES
+                   for token in tokenize.generate_tokens(io.StringIO(path.read_text(encoding="utf-8")).readline)
+                   if token.type == tokenize.NAME and is_barred(token.string)])
+        for path in FILES:
+            self.assertIsNone(re.search(r"\b(_wall|_WallAttr)\b", path.read_text(encoding="utf-8")), path)
 
     def test_imports(self):
         wrong = [(path, node, "import") for path, node in nodes(ast.Import) if path.name != "__main__.py"]
@@ -180,6 +201,12 @@ class Language(unittest.TestCase):
                       and isinstance(one.ctx, ast.Store)}
             self.assertEqual(sorted(methods), sorted(set(methods)), node.name)
             self.assertFalse(set(methods) & stored, node.name)
+
+    def test_attributes(self):
+        stored = {node.attr for _, node in nodes(ast.Attribute) if isinstance(node.ctx, ast.Store)}
+        methods = {one.name for _, node in nodes(ast.ClassDef) for one in node.body if isinstance(one, ast.FunctionDef)}
+        self.assertFalse(stored & methods)
+        self.assertFalse(stored & BARRED_ATTRIBUTES)
 
 
 if __name__ == "__main__":
