@@ -8,6 +8,7 @@ TOPS = ("E", "O", "X")
 STARTS = ("E", "O", "U", "X", "B")
 POCKETS = ("E", "O", "H", "U", "X")
 SHELVES = ("E", "O", "H", "U", "X", "B")
+REASONS = ("full", "empty", "stale", "lent", "kept", "out", "unnamed")
 
 
 def view(letter):
@@ -52,11 +53,13 @@ class Rules:
             self._far_words[name] = ["", *pacts.errors(name, side=number)]
 
     def is_fact(self, fact):
-        """Tell whether a tuple is a fact of this side other than a break."""
-        word = fact[0] if fact else None
+        """Tell whether something is a fact of this side other than a break."""
+        if not isinstance(fact, tuple) or not fact:
+            return False
+        word = fact[0]
         if word == "top":
             return len(fact) == 2 and fact[1] in TOPS
-        if len(fact) < 3 or fact[1] not in self._names or fact[2] not in STARTS:
+        if not self._is_of_call(fact):
             return False
         rest = fact[3:]
         if word == "enter":
@@ -68,6 +71,16 @@ class Rules:
         if word == "wait":
             return len(rest) == 4 and self._is_call_row(fact[1], rest[0]) and _are_letters(rest[1], rest[2:])
         return False
+
+    def is_break(self, fact):
+        """Tell whether something is a fact of this side that is a break."""
+        if not isinstance(fact, tuple) or len(fact) != 5 or fact[0] != "break":
+            return False
+        return self._is_of_call(fact) and self._is_row(fact[1], fact[3]) and fact[4] in REASONS
+
+    def _is_of_call(self, fact):
+        """Tell whether a tuple has a helper and a begin of its call behind its word."""
+        return len(fact) > 2 and fact[1] in self._names and fact[2] in STARTS
 
     def _is_row(self, name, row):
         """Tell whether a helper's body has a row of this number."""
@@ -84,6 +97,15 @@ class Rules:
     def calls_far(self, wait):
         """Tell whether a wait's row calls a helper of the other side."""
         return self.called(wait) in self._far_words
+
+    def far_words(self, name):
+        """Tell the words by which a call of a helper of the other side ends."""
+        return list(self._far_words[name])
+
+    def jumps(self, stand):
+        """Tell the row to which a stand's pick leads, None where its row is no pick."""
+        step = self._steps[stand[1]][stand[3]]
+        return step[1] if step[0] == "pick" else None
 
     def from_one(self, fact):
         """Tell the facts that follow from one alone, by the rules b to e."""
@@ -122,9 +144,9 @@ class Rules:
         if called not in self._far_words:
             return [("enter", called, seen)]
         entered = [("enter", name, seen) for name in self._names]
-        return entered + [self._behind(fact, word, fact[6]) for word in self._far_words[called]]
+        return entered + [self.behind(fact, word, fact[6]) for word in self._far_words[called]]
 
-    def _behind(self, wait, word, letter):
+    def behind(self, wait, word, letter):
         """Tell what comes behind a wait, by a word and with a letter of the shelf."""
         _, name, start, row, pockets, held, _ = wait
         shelf = "O" if letter == "B" and held == "O" else letter
@@ -151,7 +173,7 @@ class Rules:
             return [("wait", name, start, row, pockets, held, letter)]
         if self.called(fact) != end[1]:
             return []
-        return [self._behind(fact, end[3], letter)]
+        return [self.behind(fact, end[3], letter)]
 
 
 def _are_letters(pockets, shelves):

@@ -46,11 +46,17 @@ class World:
 
     def swap(self, side):
         """Put another side in the place of the one of its number."""
+        self.swap_all([side])
+
+    def swap_all(self, sides):
+        """Put other sides in the places of those of their numbers, all by one deed."""
         self._need_open()
-        if side.pacts() != self._sides[0].pacts():
-            raise NoSide(side.number())
+        for side in sides:
+            if side.pacts() != self._sides[0].pacts():
+                raise NoSide(side.number())
         self._begin_deed()
-        self._sides[side.number()] = side
+        for side in sides:
+            self._sides[side.number()] = side
 
     def close(self):
         """Close the world, and let go of everything."""
@@ -69,6 +75,10 @@ class World:
         # Each deed began in a world that was not closed.
         self._closed = False
         self._broken = None
+
+    def sides(self):
+        """Tell the two sides."""
+        return list(self._sides)
 
     def held(self):
         """Tell what the outside holds."""

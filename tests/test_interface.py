@@ -1,4 +1,4 @@
-"""The interface: names, arguments and places of definition, as far as it has landed."""
+"""The interface: names, arguments and places of definition."""
 
 import importlib
 import inspect
@@ -29,11 +29,20 @@ CLASSES = {
         "broken": "(self)", "log": "(self)", "story": "(self)", "double": "(self)", "__len__": "(self)",
         "__eq__": "(self, other)",
     }),
+    "pactford.house.House": ("(pacts, bodies)", {
+        "put": "(self, bodies)", "let_go": "(self, thing)", "close": "(self)", "back": "(self)",
+        "call": "(self, name, things=(), *, picks=(), most=200)", "body": "(self, name)", "held": "(self)",
+        "shelf": "(self, number)", "closed": "(self)", "log": "(self)", "story": "(self)", "journal": "(self)",
+        "__len__": "(self)",
+    }),
     **{"pactford.errors." + name: (form, {"__init__": "(self, " + form[1:]}) for name, form in ERRORS.items()},
 }
 FUNCTIONS = {
     "pactford.pacts.read_pacts": "(text)", "pactford.plain.plain_run": "(near, far, deeds)",
     "pactford.papers.paper": "(side, *, begin='E')", "pactford.papers.is_paper": "(side, facts, *, begin='E')",
+    "pactford.lines.lines": "(side, *, begin='E')", "pactford.lines.is_lines": "(side, told, *, begin='E')",
+    "pactford.roads.partner": "(side)", "pactford.roads.road": "(side, told)", "pactford.roads.linked": "(near, far)",
+    "pactford.ledger.is_ledger": "(pacts, log)",
 }
 VALUES = {"pactford.world.CALLS": 200, "pactford.papers.EMPTY": "E"}
 
