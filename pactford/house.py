@@ -1,6 +1,6 @@
 """The house: a world that lets no side be without a paper."""
 
-from pactford.errors import Closed, NoHelper, Unlet
+from pactford.errors import Closed, Unlet
 from pactford.lines import lines
 from pactford.papers import EMPTY
 from pactford.side import Side

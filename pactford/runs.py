@@ -4,8 +4,10 @@ from pactford.menus import ANEW, picks_to_call, picks_to_end
 from pactford.rules import Rules
 from pactford.world import CALLS
 
-# Counts may be greater than any number of lines; from here on they are all too great alike.
-TOO_MANY = CALLS + 1
+
+def _capped(count):
+    """Tell a count, or the least one that is too great: counts may have more figures than there are lines."""
+    return min(count, CALLS + 1)
 
 
 class Runs:
@@ -39,9 +41,9 @@ class Runs:
                 count += self._counts[second]
             elif fact[0] == "wait" and self._rules.calls_far(fact):
                 count += 1
-        self._counts.append(min(count, TOO_MANY))
+        self._counts.append(_capped(count))
         self._enters.append(enter)
-        self._outers.append(min(outer, TOO_MANY))
+        self._outers.append(_capped(outer))
 
     def ends(self):
         """Tell the lines of the ends of the calls ahead of the last one, in order."""
@@ -70,7 +72,7 @@ class Runs:
         return self._told[line][0][1]
 
     def calls_to(self, line):
-        """Tell how many calls the run of a line enters, TOO_MANY where there are as many or more."""
+        """Tell how many calls the run of a line enters, at least where they are not too many."""
         return self._counts[line]
 
     def last_helper(self):
@@ -78,8 +80,8 @@ class Runs:
         return self.helper(self._chain()[-1])
 
     def last_calls(self):
-        """Tell how many calls the last call enters, TOO_MANY where there are as many or more."""
-        return min(self._counts[-1] + self._outers[self._enters[-1]], TOO_MANY)
+        """Tell how many calls the last call enters, at least where they are not too many."""
+        return _capped(self._counts[-1] + self._outers[self._enters[-1]])
 
     def last_picks(self):
         """Tell the picks of the last call."""

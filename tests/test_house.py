@@ -3,7 +3,7 @@
 import random
 import unittest
 
-from making import PAIRS, harmless, pacts_of, refusal, side_of
+from making import harmless, pacts_of, refusal, side_of
 from pactford.errors import Closed, NoBody, NoHelper, NoSide, NothingDone, NoThing, TooLong, Unlet
 from pactford.house import House
 from pactford.ledger import is_ledger

@@ -137,6 +137,12 @@ class Language(unittest.TestCase):
         for start in edges:
             self.assertFalse(self.reaches(start, start, edges, 0), start)
 
+    def test_imports_are_used(self):
+        for path, tree in trees():
+            used = {node.id for node in ast.walk(tree) if isinstance(node, ast.Name)}
+            imported = {name.name for node in ast.walk(tree) if isinstance(node, ast.ImportFrom) for name in node.names}
+            self.assertLessEqual(imported, used, path)
+
     def defines(self, node):
         tree = ast.parse((TOP / (node.module.split(".")[-1] + ".py")).read_text(encoding="utf-8"))
         names = {one.name for one in tree.body if isinstance(one, (ast.FunctionDef, ast.ClassDef))}

@@ -142,7 +142,8 @@ class Forms(Looks):
 
     def test_other_kinds(self):
         for log in (None, tuple(ENTERED), "", 0, {}, ENTERED[0], [None], [7], ["made"], [list(ENTERED[0]), ENTERED[1]], [()],
-                    [(None, 1)], [(("made",), 0, None, 0)], [(0, 1, 2)], [("made", 0, [0, 0], 0)], [("made", [0], None, 0)]):
+                    [(None, 1)], [(("made",), 0, None, 0)], [(0, 1, 2)], [("made", 0, [0, 0], 0)], [("made", [0], None, 0)],
+                    [(["made"], 0, None, 0)]):
             self.assertFalse(is_ledger(PACTS, log))
 
     def test_what_is_handed_in_stays_as_it_was(self):
@@ -274,6 +275,19 @@ class Things(Looks):
                 self.assertEqual(is_ledger(pacts, log), not lend)
                 self.assertEqual(plain_is_ledger(pacts, log), not lend)
 
+    def test_lent_twice_and_one_of_them_over(self):
+        log = [("entered", 1, "tell", 0), ("made", 1, (0, 0), 0), ("entered", 2, "look", 1), ("lent", 1, (0, 0), 0, 2, (1, 0)),
+               ("entered", 3, "look", 2), ("lent", 2, (1, 0), 0, 3, (2, 0)), ("ended", 3, "", None, None)]
+        end = [("ended", 2, "", None, None), ("ended", 1, "", (0, 0), 0), ("got", 0, None, 0)]
+        self.right(*log, *end)
+        self.wrong(*log, ("freed", 2, (0, 0), 0), end[0])
+        self.wrong(*log, ("freed", 2, (0, 0), 0), end[0], ("made", 1, (0, 1), 1), ("ended", 1, "", (0, 1), 1), ("got", 0, None, 1))
+
+    def test_lent_by_the_outside_and_given(self):
+        log = [*POURED[:8], ("entered", 2, "pour", 0), ("lent", 0, None, 0, 2, (0, 1)), ("gave", 0, None, 1, 2, (1, 1)),
+               ("made", 2, (2, 0), 2), ("ended", 2, "", (2, 0), 2), ("got", 0, None, 2)]
+        self.each(log, (10, ("gave", 0, None, 0, 2, (1, 1))))
+
     def test_lent_to_a_call_of_the_other_side(self):
         log = [("entered", 1, "tell", 0), ("made", 1, (0, 0), 0), ("made", 1, (1, 0), 1), ("entered", 2, "pour", 1),
                ("lent", 1, (0, 0), 0, 2, (0, 0)), ("gave", 1, (1, 0), 1, 2, (1, 0)), ("entered", 3, "tell", 2),
@@ -293,6 +307,20 @@ class Takes(Looks):
         self.each(two, (2, ("entered", 3, "rest", 0)), (2, ("entered", 1, "rest", 0)), (2, ("entered", 2, "rest", 1)),
                   (3, ("entered", 3, "none", 0)), (3, ("entered", 3, "none", 1)), (3, ("entered", 3, "none", 3)),
                   (3, ("entered", 2, "none", 2)), (3, ("entered", 3, "None", 2)), (3, ("entered", 3, "", 2)))
+
+    def test_one_wrong_tuple_is_enough(self):
+        """Also where all goes on as if it had not been there."""
+        self.wrong(("entered", 1, "nobody", 0))
+        self.wrong(("entered", 1, "", 0), *ENTERED)
+        lent = [*POURED[:8], ("entered", 2, "look", 0), ("lent", 0, None, 0, 2, (0, 0)), ("ended", 2, "", None, None)]
+        self.each(lent, (9, ("lent", 2, None, 0, 2, (0, 0))), (9, ("lent", 1, None, 0, 2, (0, 0))), (9, ("lent", 0, None, 0, 1, (0, 0))))
+        for entry in (("ended", 1, "barred", None, None), ("ended", 1, "", None, 0), ("ended", 1, "", (0, 0), None),
+                      ("ended", 1, "", (0, 0), 0), ("ended", 1, "spilt", None, None), ("used", 1, (0, 0), 0), ("broke", 1, "")):
+            self.wrong(ENTERED[0], entry, ENTERED[1])
+        gives = [("entered", 1, "tell", 0), ("made", 1, (0, 0), 0), ("ended", 1, "", (0, 0), 0), ("got", 0, None, 0)]
+        self.each(gives, (2, ("ended", 1, "", None, None), gives[2]), (2, ("ended", 1, "spilt", None, None), gives[2]))
+        bare = [("entered", 1, "rest", 0), ("ended", 1, "barred", None, None), ("caught", 0, "barred", None, None)]
+        self.each(bare, (2, ("passed", 0, "barred"), bare[2]), (2, ("broke", 0, "unnamed"), bare[2]), (2, ("broke", 0, "unnamed")))
 
     def test_just_behind_and_in_order(self):
         self.wrong(*POURED[:4], POURED[5], POURED[4], *POURED[6:])
@@ -465,6 +493,8 @@ class Closings(Looks):
         for at in range(5):
             self.wrong(*head, *tail[:at], *tail[at + 1:])
             self.wrong(*head, *tail[:at], tail[at], *tail[at:])
+            if at < 4:
+                self.wrong(*head, *[tail[at] if other == at + 1 else one for other, one in enumerate(tail)])
             for other in range(at + 1, 5):
                 if (at, other) not in ((0, 1), (2, 3)):
                     changed = list(tail)
@@ -485,6 +515,9 @@ class Closings(Looks):
         for reason in ("", "Full", "none", "fulls", "done", "spilt"):
             self.wrong(*self.BROKE[:9], ("broke", 2, reason), *self.BROKE[10:])
         self.wrong(*self.BROKE[:9], ("broke", 1, "full"), *self.BROKE[10:])
+        for entry in (("ended", 2, "kept", None, None), ("entered", 2, "kept", 3), ("caught", 2, "kept", None, None), ("passed", 2, "kept")):
+            self.wrong(*self.BROKE[:9], entry, *self.BROKE[10:])
+            self.wrong(("entered", 1, "rest", 0), ("entered", 2, "rest", 1), ("ended", 2, "barred", None, None), (entry[0], 1, *entry[2:]))
         self.wrong(("broke", 0, "full"))
         self.wrong(("broke", 1, "full"))
 

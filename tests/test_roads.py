@@ -38,6 +38,21 @@ def followed(facts, *, ahead=0):
     return [(fact, ahead + at - 1 if ahead + at else None, None) for at, fact in enumerate(facts)]
 
 
+def ordered(how, target):
+    """Lines to a fact where each fact was led to as how tells, in whatever order."""
+    order = []
+    queue = [target]
+    while queue:
+        left = [one for one in how[queue[-1]] if one is not None and one not in order]
+        if left:
+            queue.append(left[0])
+        else:
+            order.append(queue.pop())
+    order = list(dict.fromkeys(order))
+    numbers = {fact: at for at, fact in enumerate(order)}
+    return [(fact, *[None if one is None else numbers[one] for one in how[fact]]) for fact in order]
+
+
 class Walk(unittest.TestCase):
     def walk(self, side, told):
         """Do the road of lines; told are the world behind it and the road."""
@@ -222,13 +237,43 @@ class Long(Walk):
                 side = self.side(calls, [*["clear a"] * more, "done"], last="use b\ndone")
                 how = drawn_facts(None, PlainRules(side), "E", most=20000)
                 told = lines_to(how, ("wait", "outer", "E", len(calls) - 1, "EEEEE", "E", "E"))
+                wait = len(told) - 1
                 told += followed([("enter", "last", "E"), ("stand", "last", "E", 0, "EEEEE", "E"),
                                   ("break", "last", "E", 0, "empty")], ahead=len(told))
+                if name == "far":
+                    # A fact besides, of the call around, stands just ahead of the last line.
+                    told[-1:-1] = [(("stand", "outer", "E", len(calls), "EEEEE", "E"), wait, None)]
                 self.assertEqual(Counts(PlainRules(side), told).calls(), [("outer", count)])
                 if count > 200:
                     self.assertEqual(refusal(road, side, told), (TooLong,))
                 else:
                     self.walk(side, told)
+
+    def test_the_calls_around_the_calls_around_it(self):
+        # outer calls 100 helpers and then twice, which calls some and then last.
+        for many, count in ((96, 199), (97, 200), (98, 201)):
+            side = Side(self.PACTS, 0, {"outer": "\n".join([*["call inner"] * 100, "call twice", "done"]), "inner": "done",
+                                        "twice": "\n".join([*["call inner"] * many, "call last", "done"]), "last": "use b\ndone"})
+            how = drawn_facts(None, PlainRules(side), "E", most=20000)
+            how[("enter", "twice", "E")] = (("wait", "outer", "E", 100, "EEEEE", "E", "E"), None)
+            how[("enter", "last", "E")] = (("wait", "twice", "E", many, "EEEEE", "E", "E"), None)
+            told = ordered(how, ("break", "last", "E", 0, "empty"))
+            self.assertEqual(Counts(PlainRules(side), told).calls(), [("outer", count)])
+            if count > 200:
+                self.assertEqual(refusal(road, side, told), (TooLong,))
+            else:
+                self.walk(side, told)
+
+    def test_a_break_where_an_error_passes(self):
+        pacts = pacts_of([("outer", 0, (), False, ()), ("throws", 0, (), False, ("shut",)), ("inner", 0, (), False, ()),
+                          ("far", 1, (), False, ())])
+        # The error of the very last call comes to a row that has no catch.
+        for inner, far, count in ((197, 0, 199), (196, 1, 199)):
+            for more in (0, 1, 2):
+                throws = "\n".join([*["call far"] * more, "throw shut"])
+                rows = [*["call inner"] * inner, *["call far"] * far, "call throws", "done"]
+                side = Side(pacts, 0, {"outer": "\n".join(rows), "throws": throws, "inner": "done"})
+                self.check(side, ("outer", "E", 197, "unnamed"), [count + more])
 
     def test_no_lines_comes_ahead_of_too_long(self):
         side = self.side(["twice"] * 198, ["use a", "done"])
